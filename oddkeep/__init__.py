@@ -1,0 +1,1 @@
+"""Oddkeep: games of chance for two players, worked out exactly."""

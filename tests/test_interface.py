@@ -1,0 +1,45 @@
+"""The names and the arguments of the interface, each in its own file."""
+
+import importlib
+import inspect
+import unittest
+
+FUNCTIONS = {
+    "oddkeep.numbers": {
+        "is_number": "(value)",
+        "is_short": "(value)",
+        "number": "(n, d)",
+        "compare": "(a, b)",
+        "plus": "(a, b)",
+        "minus": "(a, b)",
+        "times": "(a, b)",
+        "divided": "(a, b)",
+        "total": "(numbers)",
+    },
+    "oddkeep.games": {
+        "check_game": "(game)",
+        "check_strategy": "(game, side, strategy)",
+        "targets": "(game, place)",
+        "places_of": "(game, kind)",
+        "is_chain": "(game)",
+        "with_strategy": "(game, side, strategy)",
+        "exchanged": "(game)",
+        "reached": "(game, place)",
+        "sources": "(game, place)",
+    },
+}
+
+
+class Interface(unittest.TestCase):
+    def test_functions(self):
+        for module, functions in FUNCTIONS.items():
+            for name, arguments in functions.items():
+                with self.subTest(module=module, name=name):
+                    function = getattr(importlib.import_module(module), name)
+                    self.assertTrue(inspect.isfunction(function))
+                    self.assertEqual(function.__module__, module)
+                    self.assertEqual(str(inspect.signature(function)), arguments)
+
+
+if __name__ == "__main__":
+    unittest.main()

@@ -1,0 +1,93 @@
+"""Some rules of the language that the files of the package keep to."""
+
+import ast
+import re
+import unittest
+from pathlib import Path
+
+PACKAGE = Path(__file__).resolve().parent.parent / "oddkeep"
+LIBRARY = {
+    "heapq": {"heappush", "heappop", "heapify", "heapreplace", "heappushpop"},
+    "math": {"gcd", "lcm", "isqrt", "comb", "perm", "factorial"},
+    "itertools": {
+        "product", "combinations", "permutations", "chain", "accumulate", "pairwise", "islice", "zip_longest",
+    },
+    "collections": {"defaultdict"},
+}
+MODULE_LEVEL = (ast.ImportFrom, ast.FunctionDef, ast.ClassDef, ast.Assign)
+NEVER = (ast.Global, ast.AsyncFunctionDef, ast.Await, ast.Import, ast.Div)
+
+
+def sources():
+    return {path.name: path.read_text(encoding="utf-8") for path in sorted(PACKAGE.glob("*.py"))}
+
+
+def parsed():
+    return [(name, text, ast.parse(text)) for name, text in sources().items()]
+
+
+def is_docstring(statement):
+    return isinstance(statement, ast.Expr) and isinstance(statement.value, ast.Constant)
+
+
+def defined_in(tree):
+    names = [node.name for node in tree.body if isinstance(node, (ast.FunctionDef, ast.ClassDef))]
+    return names + [node.targets[0].id for node in tree.body if isinstance(node, ast.Assign)]
+
+
+class Language(unittest.TestCase):
+    def test_the_folder_has_only_files_of_python(self):
+        names = [path.name for path in PACKAGE.iterdir() if path.name != "__pycache__"]
+        self.assertIn("__init__.py", names)
+        for name in names:
+            self.assertRegex(name, r"\A[a-z0-9_]+\.py\Z")
+
+    def test_sizes_and_characters(self):
+        for name, text, tree in parsed():
+            lines = text.splitlines()
+            self.assertRegex(text, r"\A[ -~\n]*\Z", name)
+            self.assertLessEqual(len(lines), 399, name)
+            self.assertLessEqual(max([len(line) for line in lines]), 120, name)
+            for node in ast.walk(tree):
+                if isinstance(node, ast.FunctionDef):
+                    self.assertLessEqual(node.end_lineno - node.lineno + 1, 40, node.name)
+
+    def test_statements(self):
+        for name, text, tree in parsed():
+            for statement in tree.body:
+                self.assertTrue(is_docstring(statement) or isinstance(statement, MODULE_LEVEL), name)
+            for node in ast.walk(tree):
+                self.assertNotIsInstance(node, NEVER, name)
+                if isinstance(node, ast.Constant):
+                    self.assertNotIsInstance(node.value, (float, complex), name)
+                    self.assertNotIn("%", str(node.value), name)
+
+    def test_imports_name_the_file_that_defines(self):
+        defined = {f"oddkeep.{name[:-3]}": defined_in(ast.parse(text)) for name, text in sources().items()}
+        defined.update(LIBRARY)
+        for name, text, tree in parsed():
+            for node in ast.walk(tree):
+                if isinstance(node, ast.ImportFrom):
+                    self.assertEqual(node.level, 0, name)
+                    for alias in node.names:
+                        self.assertIn(alias.name, defined[node.module], name)
+
+    def test_names_are_bound_once(self):
+        for name, text, tree in parsed():
+            names = defined_in(tree)
+            for node in tree.body:
+                if isinstance(node, ast.ImportFrom):
+                    names += [alias.asname or alias.name for alias in node.names]
+            self.assertEqual(len(names), len(set(names)), name)
+
+    def test_words_that_are_not_used(self):
+        words = re.compile(r"\b(register|mro|elements|open|input|law|eval|exec|print|global|async|chr|type)\b")
+        for name, text, tree in parsed():
+            for node in ast.walk(tree):
+                for word in (getattr(node, "id", ""), getattr(node, "arg", ""), getattr(node, "attr", ""),
+                             getattr(node, "name", "")):
+                    self.assertIsNone(words.fullmatch(word or ""), f"{word} in {name}")
+
+
+if __name__ == "__main__":
+    unittest.main()
