@@ -7,19 +7,10 @@ from oddkeep.errors import (
     BadChance, BadKind, BadNumber, BadSize, BadStrategy, BadTarget, OddsError,
 )
 from oddkeep.games import check_game, check_strategy
+from tests.helping import EVERY_KIND, HALF
 
 ONE = (1, 1)
-HALF = (1, 2)
 LARGE = 10 ** 40
-
-EVERY_KIND = [
-    ("draw", [((1, 2), 1), ((1, 3), 2), ((1, 6), 0)]),
-    ("ours", [2, 0, 2]),
-    ("theirs", [3, 4]),
-    ("reward", (7, 2), 5),
-    ("finish",),
-    ("lose",),
-]
 
 GOOD_GAMES = [
     EVERY_KIND,

@@ -1,14 +1,11 @@
 """Points 3 to 6: where games lead, strategies put in, sides exchanged."""
 
-import copy
 import unittest
 
 from oddkeep.games import (
     check_game, exchanged, is_chain, places_of, reached, sources, targets, with_strategy,
 )
-
-HALF = (1, 2)
-KINDS = ("draw", "ours", "theirs", "reward", "finish", "lose")
+from tests.helping import HALF, KINDS, ArgumentsStay
 
 GAME = [
     ("ours", [1, 2, 2]),
@@ -21,66 +18,22 @@ GAME = [
 ]
 CHAIN = [("draw", [(HALF, 0), (HALF, 1)]), ("reward", (0, 1), 2), ("finish",), ("lose",)]
 
-CALLS = [
-    ("targets", targets, [GAME, 0]),
-    ("targets", targets, [GAME, 1]),
-    ("targets", targets, [GAME, 2]),
-    ("targets", targets, [GAME, 3]),
-    ("targets", targets, [GAME, 4]),
-    ("places_of", places_of, [GAME, "ours"]),
-    ("with_strategy", with_strategy, [GAME, "ours", [1, None, None, None, None, None, 0]]),
-    ("with_strategy", with_strategy, [GAME, "theirs", [None, 3, None, None, None, None, None]]),
-    ("exchanged", exchanged, [GAME]),
-    ("reached", reached, [GAME, 0]),
-    ("sources", sources, [GAME, 2]),
-]
 
-
-def calls():
-    """Each function with arguments that no other call shares."""
-    return [copy.deepcopy(call) for call in CALLS]
-
-
-def spoiled(value):
-    """Change everything in the answer that can be changed."""
-    if isinstance(value, (list, tuple)):
-        for part in value:
-            spoiled(part)
-    if isinstance(value, list):
-        value.append("spoiled")
-
-
-class Arguments(unittest.TestCase):
-    def test_arguments_stay_as_they_were(self):
-        for name, function, arguments in calls():
-            with self.subTest(name=name):
-                before = copy.deepcopy(arguments)
-                function(*arguments)
-                self.assertEqual(arguments, before)
-
-    def test_is_chain_leaves_the_game(self):
-        game = copy.deepcopy(GAME)
-        is_chain(game)
-        self.assertEqual(game, GAME)
-
-    def test_a_changed_answer_changes_nothing_later(self):
-        for name, function, arguments in calls():
-            with self.subTest(name=name):
-                before = copy.deepcopy(arguments)
-                first = function(*arguments)
-                kept = copy.deepcopy(first)
-                spoiled(first)
-                self.assertNotEqual(first, kept)
-                self.assertEqual(arguments, before)
-                self.assertEqual(function(*arguments), kept)
-
-    def test_changed_arguments_change_no_earlier_answer(self):
-        for name, function, arguments in calls():
-            with self.subTest(name=name):
-                answer = function(*arguments)
-                kept = copy.deepcopy(answer)
-                spoiled(arguments)
-                self.assertEqual(answer, kept)
+class Arguments(ArgumentsStay, unittest.TestCase):
+    CALLS = [
+        (targets, [GAME, 0], {}),
+        (targets, [GAME, 1], {}),
+        (targets, [GAME, 2], {}),
+        (targets, [GAME, 3], {}),
+        (targets, [GAME, 4], {}),
+        (places_of, [GAME, "ours"], {}),
+        (is_chain, [GAME], {}),
+        (with_strategy, [GAME, "ours", [1, None, None, None, None, None, 0]], {}),
+        (with_strategy, [GAME, "theirs", [None, 3, None, None, None, None, None]], {}),
+        (exchanged, [GAME], {}),
+        (reached, [GAME, 0], {}),
+        (sources, [GAME, 2], {}),
+    ]
 
 
 class Targets(unittest.TestCase):

@@ -27,6 +27,25 @@ FUNCTIONS = {
         "reached": "(game, place)",
         "sources": "(game, place)",
     },
+    "oddkeep.reading": {
+        "lines_of": "(text)",
+        "words_of": "(line)",
+        "read_number": "(word)",
+        "read_game": "(text)",
+        "read_strategy": "(game, side, text)",
+    },
+    "oddkeep.writing": {
+        "write_number": "(number)",
+        "write_place": "(place)",
+        "write_game": "(game)",
+        "write_strategy": "(strategy)",
+    },
+    "oddkeep.masses": {
+        "masses_after": "(chain, place, *, steps)",
+        "finished_within": "(chain, *, steps)",
+        "values_of_steps": "(game, *, steps)",
+        "good_moves": "(game, *, steps)",
+    },
 }
 
 

@@ -1,6 +1,7 @@
 """Some rules of the language that the files of the package keep to."""
 
 import ast
+import builtins
 import re
 import unittest
 from pathlib import Path
@@ -79,6 +80,20 @@ class Language(unittest.TestCase):
                 if isinstance(node, ast.ImportFrom):
                     names += [alias.asname or alias.name for alias in node.names]
             self.assertEqual(len(names), len(set(names)), name)
+
+    def test_names_in_functions_are_not_those_of_imports_classes_and_builtins(self):
+        for name, text, tree in parsed():
+            taken = set(dir(builtins))
+            for node in tree.body:
+                if isinstance(node, ast.ImportFrom):
+                    taken.update(alias.asname or alias.name for alias in node.names)
+                if isinstance(node, ast.ClassDef):
+                    taken.add(node.name)
+            for node in ast.walk(tree):
+                if isinstance(node, ast.arg):
+                    self.assertNotIn(node.arg, taken, name)
+                if isinstance(node, ast.Name) and isinstance(node.ctx, ast.Store):
+                    self.assertNotIn(node.id, taken, name)
 
     def test_words_that_are_not_used(self):
         words = re.compile(r"\b(register|mro|elements|open|input|law|eval|exec|print|global|async|chr|type)\b")
