@@ -10,6 +10,7 @@ from oddkeep.games import SIDES, targets
 from oddkeep.numbers import number, total
 
 ONE = (1, 1)
+ENDS = ("finish", "lose")
 
 
 def chances_from(chain, place):
@@ -101,7 +102,7 @@ def _part_before(game, place, parts, scale):
     row = game[place]
     if row[0] == "draw":
         return sum([n * (scale // d) * parts[x] for (n, d), x in row[1]])
-    if row[0] == "finish" or row[0] == "lose":
+    if row[0] in ENDS:
         return parts[place] * scale
     ahead = [parts[x] * scale for x in targets(game, place)]
     return min(ahead) if row[0] == "theirs" else max(ahead)
