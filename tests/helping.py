@@ -3,6 +3,10 @@
 import copy
 import random
 from fractions import Fraction
+from itertools import product
+
+from oddkeep.chains import chances
+from oddkeep.games import places_of, with_strategy
 
 HALF = (1, 2)
 KINDS = ("draw", "ours", "theirs", "reward", "finish", "lose")
@@ -127,6 +131,16 @@ def random_chains(seed, count, most_places=7):
     return random_games(seed, count, most_places, CHAIN_KINDS)
 
 
+def busy_games(seed, count, most_places=7, kinds=("draw", "draw", "ours", "ours", "theirs", "reward")):
+    """Games that go on at all places but the last two, which are the ends."""
+    chance = random.Random(seed)
+    games = []
+    for _ in range(count):
+        many = chance.randint(3, most_places)
+        games.append([random_place(chance, many, kinds, 3) for _ in range(many - 2)] + [("finish",), ("lose",)])
+    return games
+
+
 def moves_of(chain, place):
     """The chances of one step from the place, for each place to which it can lead."""
     row = chain[place]
@@ -138,3 +152,34 @@ def moves_of(chain, place):
     if row[0] == "reward":
         return {row[2]: Fraction(1)}
     return {}
+
+
+def strategies(game, side):
+    """All strategies of the side."""
+    choices = [range(len(row[1])) if row[0] == side else [None] for row in game]
+    return [list(told) for told in product(*choices)]
+
+
+def both_put_in(game, ours, theirs):
+    return with_strategy(with_strategy(game, "ours", ours), "theirs", theirs)
+
+
+def finishing(game, ours, theirs):
+    """The chance of the two strategies at each place."""
+    chain = both_put_in(game, ours, theirs)
+    return fractions(chances(chain, places_of(chain, "finish")))
+
+
+def least_by_trying(game, ours):
+    """The least chances of the strategy of ours, found by trying all strategies of theirs."""
+    return [min(column) for column in zip(*[finishing(game, ours, theirs) for theirs in strategies(game, "theirs")])]
+
+
+def greatest_by_trying(game, theirs):
+    """The greatest chances of the strategy of theirs, found by trying all strategies of ours."""
+    return [max(column) for column in zip(*[finishing(game, ours, theirs) for ours in strategies(game, "ours")])]
+
+
+def values_by_trying(game):
+    """The values of all places, found by trying all strategies of both sides."""
+    return [max(column) for column in zip(*[least_by_trying(game, ours) for ours in strategies(game, "ours")])]

@@ -84,6 +84,30 @@ FUNCTIONS = {
         "expected_rewards": "(chain)",
         "are_rewards": "(chain, numbers)",
     },
+    "oddkeep.deciding": {
+        "mean_at": "(game, place, numbers)",
+        "is_upper": "(game, numbers, *, theirs)",
+        "is_lower": "(game, numbers, *, ours, ranks)",
+        "least_ranks": "(game, numbers, *, ours)",
+        "least_against": "(game, ours)",
+        "greatest_against": "(game, theirs)",
+        "improved": "(game, ours, numbers)",
+    },
+    "oddkeep.duels": {
+        "values": "(game)",
+        "answer_of": "(game)",
+        "check_answer": "(game, answer)",
+        "improvements": "(game, ours)",
+        "greedy": "(game, numbers, *, side)",
+        "is_best": "(game, strategy, *, side)",
+        "gap": "(game, *, ours, theirs)",
+    },
+    "oddkeep.observing": {
+        "chances_of": "(chain, condition)",
+        "conditioned": "(chain, condition)",
+        "run_chance_given": "(chain, run, *, condition)",
+        "rewards_given": "(chain, place, *, condition)",
+    },
 }
 
 

@@ -3,16 +3,17 @@
 import random
 import unittest
 from itertools import chain as joined
-from itertools import combinations, product
+from itertools import combinations
 
 from oddkeep.chains import chances
+from oddkeep.duels import values
 from oddkeep.games import check_strategy, places_of, reached, targets, with_strategy
 from oddkeep.masses import values_of_steps
 from oddkeep.sure import (
     almost_sure, chance_ranks, is_closed, is_escape, keeping_away, no_chance, shows_almost_sure, shows_sure,
     stages, sure_ranks, sure_strategy,
 )
-from tests.helping import EVERY_KIND, HALF, ArgumentsStay, fraction, random_games
+from tests.helping import EVERY_KIND, HALF, ArgumentsStay, least_by_trying, random_games, strategies
 
 EXAMPLE = [("draw", [(HALF, 0), (HALF, 1)]), ("finish",), ("theirs", [1, 3]), ("lose",)]
 
@@ -53,12 +54,6 @@ class Arguments(ArgumentsStay, unittest.TestCase):
         (is_closed, [ROUNDS, [0, 9]], {}),
         (shows_almost_sure, [STAGES, *almost_sure(STAGES)], {}),
     ]
-
-
-def strategies(game, side):
-    """All strategies of the side."""
-    choices = [range(len(row[1])) if row[0] == side else [None] for row in game]
-    return [list(told) for told in product(*choices)]
 
 
 def subsets(game):
@@ -423,29 +418,19 @@ class Stages(unittest.TestCase):
         for game in small_games("answers", 100):
             fallen = ranked(stages(game))
             for ours in strategies(game, "ours"):
-                half = with_strategy(game, "ours", ours)
-                answers = [with_strategy(half, "theirs", theirs) for theirs in strategies(game, "theirs")]
-                told = [chances(chain, places_of(chain, "finish")) for chain in answers]
-                for place in fallen:
-                    self.assertTrue(any(numbers[place] != (1, 1) for numbers in told))
+                least = least_by_trying(game, ours)
+                self.assertTrue(all(least[place] < 1 for place in fallen))
 
     def test_sure_places_are_almost_sure_and_these_have_a_chance(self):
         for game in random_games("parts", 300):
             self.assertLessEqual(set(ranked(sure_ranks(game))), set(almost_sure(game)[0]))
             self.assertLessEqual(set(almost_sure(game)[0]), set(ranked(chance_ranks(game))))
 
-    def test_the_greatest_chances(self):
-        # The greatest of the least chances is 1 exactly at the almost sure places, 0 exactly where there is none.
-        for game in small_games("values", 60):
-            best = [(0, 1)] * len(game)
-            for ours in strategies(game, "ours"):
-                half = with_strategy(game, "ours", ours)
-                answers = [with_strategy(half, "theirs", theirs) for theirs in strategies(game, "theirs")]
-                told = [chances(chain, places_of(chain, "finish")) for chain in answers]
-                least = [min(column, key=fraction) for column in zip(*told)]
-                best = [max(pair, key=fraction) for pair in zip(best, least)]
-            self.assertEqual([place for place, number in enumerate(best) if number == (1, 1)], almost_sure(game)[0])
-            self.assertEqual([place for place, number in enumerate(best) if number == (0, 1)], no_chance(game))
+    def test_the_places_of_value_1_and_of_value_0(self):
+        for game in random_games("values", 300):
+            numbers = values(game)
+            self.assertEqual([place for place, number in enumerate(numbers) if number == (1, 1)], almost_sure(game)[0])
+            self.assertEqual([place for place, number in enumerate(numbers) if number == (0, 1)], no_chance(game))
 
 
 class ShowsAlmostSure(unittest.TestCase):
