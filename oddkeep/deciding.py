@@ -52,7 +52,7 @@ def _can_stand(kind, worth):
     return compare(worth, ZERO) >= 0 and compare(worth, ONE) <= 0
 
 
-def _told_targets(game, place, strategy):
+def told_targets(game, place, strategy):
     """Return the target that the strategy tells, or all targets where it tells none."""
     ahead = targets(game, place)
     told = strategy[place]
@@ -60,12 +60,16 @@ def _told_targets(game, place, strategy):
 
 
 def _is_beyond(game, place, numbers, strategy, way):
-    """Tell whether the number is at least (way 1) or at most (way -1) what stands ahead."""
     if game[place][0] == "draw":
         ahead = [mean_at(game, place, numbers)]
     else:
-        ahead = [numbers[x] for x in _told_targets(game, place, strategy)]
-    return all([compare(numbers[place], worth) != -way for worth in ahead])
+        ahead = [numbers[x] for x in told_targets(game, place, strategy)]
+    return is_bound(numbers[place], ahead, way)
+
+
+def is_bound(bound, ahead, way):
+    """Tell whether the bound is at least (way 1) or at most (way -1) each of the numbers ahead."""
+    return all([compare(bound, worth) != -way for worth in ahead])
 
 
 def _is_rank_right(game, place, numbers, ours, ranks):
@@ -76,7 +80,7 @@ def _is_rank_right(game, place, numbers, ours, ranks):
     if kind == "finish":
         return rank == 0
     # From a rank of 0 or less no play goes down to a finish, so that no such rank is right at all places.
-    lesser = [ranks[x] is not None and ranks[x] < rank for x in _told_targets(game, place, ours)]
+    lesser = [ranks[x] is not None and ranks[x] < rank for x in told_targets(game, place, ours)]
     return any(lesser) if kind == "draw" else all(lesser)
 
 
@@ -97,7 +101,7 @@ def least_ranks(game, numbers, *, ours):
 
 
 def _gets_rank(game, place, ours, ranks):
-    ranked = [ranks[x] is not None for x in _told_targets(game, place, ours)]
+    ranked = [ranks[x] is not None for x in told_targets(game, place, ours)]
     return any(ranked) if game[place][0] == "draw" else all(ranked)
 
 
@@ -105,21 +109,32 @@ def least_against(game, ours):
     """Return the least chances of the strategy of ours, and a strategy of theirs that brings all places to them."""
     told = with_strategy(game, "ours", ours)
     # Better and better choices alone need not find the way round for ever, from which no finish is met.
-    return _best_alone(told, "theirs", keeping_away(told))
+    return best_alone(told, "theirs", keeping_away(told), _finishing)
 
 
 def greatest_against(game, theirs):
     """Return the greatest chances of the strategy of theirs, and a strategy of ours that brings all places to them."""
     told = with_strategy(game, "theirs", theirs)
-    return _best_alone(told, "ours", [0 if row[0] == "ours" else None for row in told])
+    return best_alone(told, "ours", first_branches(told, "ours"), _finishing)
 
 
-def _best_alone(game, side, first):
-    """Better the first strategy of the only side of the game until this changes nothing more."""
+def _finishing(chain):
+    return chances(chain, places_of(chain, "finish"))
+
+
+def first_branches(game, side):
+    """Return the strategy of the side that tells branch 0 everywhere."""
+    return [0 if row[0] == side else None for row in game]
+
+
+def best_alone(game, side, first, numbers_of):
+    """Better the first strategy of the only side of the game until this changes nothing more.
+
+    Return the numbers of the chain that is made with the last strategy, and this strategy.
+    """
     strategy = first
     while True:
-        chain = with_strategy(game, side, strategy)
-        numbers = chances(chain, places_of(chain, "finish"))
+        numbers = numbers_of(with_strategy(game, side, strategy))
         better = bettered(game, side, strategy, numbers)
         if better == strategy:
             return (numbers, strategy)

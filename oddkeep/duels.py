@@ -1,7 +1,7 @@
 """Duels: the values of games, best strategies of both sides, and what shows that they are right."""
 
 from oddkeep.deciding import (
-    best_branch, greatest_against, improved, is_lower, is_upper, least_against, least_ranks,
+    best_branch, first_branches, greatest_against, improved, is_lower, is_upper, least_against, least_ranks,
 )
 from oddkeep.games import places_of, targets
 from oddkeep.numbers import minus
@@ -40,8 +40,7 @@ def improvements(game, ours):
 
 
 def _best_of_ours(game):
-    first = [0 if row[0] == "ours" else None for row in game]
-    return improvements(game, first)[-1]
+    return improvements(game, first_branches(game, "ours"))[-1]
 
 
 def greedy(game, numbers, *, side):

@@ -4,6 +4,8 @@ import importlib
 import inspect
 import unittest
 
+from oddkeep.table import Table
+
 FUNCTIONS = {
     "oddkeep.numbers": {
         "is_number": "(value)",
@@ -108,6 +110,56 @@ FUNCTIONS = {
         "run_chance_given": "(chain, run, *, condition)",
         "rewards_given": "(chain, place, *, condition)",
     },
+    "oddkeep.alike": {
+        "kind_of": "(chain, place)",
+        "chance_into": "(chain, place, places)",
+        "is_alike_division": "(chain, classes)",
+        "rounds": "(chain)",
+        "parting_round": "(chain, one, other)",
+        "passes": "(chain, place, test)",
+        "depth": "(test)",
+        "telling_test": "(chain, one, other)",
+        "quotient": "(chain)",
+    },
+    "oddkeep.stakes": {
+        "stakes": "(game)",
+        "stakes_paper": "(game)",
+        "is_stakes_paper": "(game, paper)",
+        "are_upper_stakes": "(game, numbers, *, theirs)",
+        "are_lower_stakes": "(game, numbers, *, ours)",
+        "stakes_of_steps": "(game, *, steps)",
+        "expected_stakes": "(game, *, ours, theirs)",
+        "with_prizes": "(game)",
+    },
+    "oddkeep.table": {
+        "replay": "(game, start, journal)",
+    },
+    "oddkeep.building": {
+        "one_after": "(first, second)",
+        "choice_between": "(games, *, side)",
+        "mixture": "(parts)",
+        "turned_about": "(game)",
+        "always_ends": "(game)",
+    },
+}
+
+METHODS = {
+    "__init__": "(self, game, *, start)",
+    "__len__": "(self)",
+    "draw": "(self, run)",
+    "pass_on": "(self, run)",
+    "choose": "(self, run, *, branch)",
+    "reply": "(self, run, *, branch)",
+    "merge": "(self, run, other)",
+    "undo": "(self)",
+    "redo": "(self)",
+    "do_all": "(self, deeds)",
+    "runs": "(self)",
+    "promise": "(self)",
+    "surplus": "(self)",
+    "finished": "(self)",
+    "lost": "(self)",
+    "journal": "(self)",
 }
 
 
@@ -120,6 +172,18 @@ class Interface(unittest.TestCase):
                     self.assertTrue(inspect.isfunction(function))
                     self.assertEqual(function.__module__, module)
                     self.assertEqual(str(inspect.signature(function)), arguments)
+
+    def test_the_class_of_tables(self):
+        self.assertEqual(Table.__module__, "oddkeep.table")
+        self.assertEqual(str(inspect.signature(Table)), "(game, *, start)")
+        for name, arguments in METHODS.items():
+            with self.subTest(name=name):
+                # The methods stand in the class itself, not in a base class.
+                method = vars(Table)[name]
+                self.assertTrue(inspect.isfunction(method))
+                self.assertEqual(str(inspect.signature(method)), arguments)
+        for name in ("can_undo", "can_redo"):
+            self.assertIsInstance(vars(Table)[name], property)
 
 
 if __name__ == "__main__":
