@@ -102,6 +102,10 @@ def depth_by_definition(test):
     return max(inner, default=0) + (test[0] == "next")
 
 
+def parts_in(test):
+    return 1 + sum(parts_in(part) for part in test[1:] if test[0] != "kind" and isinstance(part[0], str))
+
+
 def random_test(chance, levels):
     word = chance.choice(("kind", "not", "both", "next", "next")) if levels else "kind"
     if word == "kind":
@@ -353,6 +357,8 @@ class TellingTest(unittest.TestCase):
         self.assertIn(one, passing(chain, test))
         self.assertNotIn(other, passing(chain, test))
         self.assertEqual(depth_by_definition(test), parted)
+        # Tests are made of tests, but they stay short.
+        self.assertLess(parts_in(test), 200)
         self.assertIs(passes(chain, one, test), True)
         self.assertIs(passes(chain, other, test), False)
         self.assertEqual(depth(test), parted)

@@ -16,6 +16,15 @@ LIBRARY = {
     "collections": {"defaultdict"},
 }
 MODULE_LEVEL = (ast.ImportFrom, ast.FunctionDef, ast.ClassDef, ast.Assign)
+BUILTINS = set("""
+    len range enumerate zip min max sum abs sorted reversed int str bool bytes list tuple dict set frozenset isinstance
+    ord repr any all divmod pow super property
+""".split()) | {name for name in dir(builtins) if name.endswith("Error")}
+METHODS = set("""
+    append clear copy count endswith extend find get index insert isalnum isalpha isdigit islower isspace isupper items
+    join keys ljust lower lstrip partition pop remove replace reverse rfind rjust rpartition rsplit rstrip setdefault
+    split splitlines startswith strip update upper values zfill bit_length add discard removeprefix removesuffix isascii
+""".split())
 NEVER = (ast.Global, ast.AsyncFunctionDef, ast.Await, ast.Import, ast.Div)
 
 
@@ -94,6 +103,49 @@ class Language(unittest.TestCase):
                     self.assertNotIn(node.arg, taken, name)
                 if isinstance(node, ast.Name) and isinstance(node.ctx, ast.Store):
                     self.assertNotIn(node.id, taken, name)
+
+    def test_no_other_builtins_are_used(self):
+        for name, text, tree in parsed():
+            bound = set(defined_in(tree))
+            for node in ast.walk(tree):
+                if isinstance(node, ast.ImportFrom):
+                    bound.update(alias.name for alias in node.names)
+                if isinstance(node, ast.arg):
+                    bound.add(node.arg)
+                if isinstance(node, ast.Name) and isinstance(node.ctx, ast.Store):
+                    bound.add(node.id)
+                if isinstance(node, ast.MatchAs):
+                    bound.add(node.name)
+            used = {node.id for node in ast.walk(tree) if isinstance(node, ast.Name)}
+            self.assertLessEqual(used - bound, BUILTINS, name)
+
+    def test_no_other_methods_are_called(self):
+        for name, text, tree in parsed():
+            own = {node.name for node in ast.walk(tree) if isinstance(node, ast.FunctionDef)} | {"__init__"}
+            for node in ast.walk(tree):
+                if isinstance(node, ast.Call) and isinstance(node.func, ast.Attribute):
+                    self.assertIn(node.func.attr, METHODS | own, name)
+
+    def test_is_stands_beside_none_true_and_false(self):
+        for name, text, tree in parsed():
+            for node in ast.walk(tree):
+                if isinstance(node, ast.Compare):
+                    for sign, other in zip(node.ops, node.comparators):
+                        if isinstance(sign, (ast.Is, ast.IsNot)):
+                            self.assertIn(ast.unparse(other), ("None", "True", "False"), name)
+
+    def test_loops_do_not_change_what_they_go_over(self):
+        changing = {"append", "pop", "extend", "remove", "insert", "clear", "setdefault", "update", "reverse"}
+        for name, text, tree in parsed():
+            for loop in [node for node in ast.walk(tree) if isinstance(node, ast.For)]:
+                named = [node for node in ast.walk(loop.iter) if isinstance(node, (ast.Name, ast.Attribute))]
+                over = {ast.unparse(node) for node in named}
+                for node in [node for row in loop.body + loop.orelse for node in ast.walk(row)]:
+                    if isinstance(node, ast.Call) and isinstance(node.func, ast.Attribute):
+                        if node.func.attr in changing:
+                            self.assertNotIn(ast.unparse(node.func.value), over, name)
+                    if isinstance(node, ast.Subscript) and not isinstance(node.ctx, ast.Load):
+                        self.assertNotIn(ast.unparse(node.value), over, name)
 
     def test_words_that_are_not_used(self):
         words = re.compile(r"\b(register|mro|elements|open|input|law|eval|exec|print|global|async|chr|type)\b")
